@@ -1,0 +1,1 @@
+"""Drawings of shapes, told exactly, dot by dot."""
