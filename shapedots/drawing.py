@@ -1,20 +1,44 @@
 """The calls."""
 
+from shapedots.canvas import painted_dots
 from shapedots.picture import read_picture
 from shapedots.refusals import WrongText
 from shapedots.signs import signs_of
 
 MOST_BYTES = 65536
 
-TOO_LONG = -1
+BEYOND_BOUNDS = -1
 NOT_RIGHT = -2
+TOO_MANY_DOTS = -3
 
 
-def size(text):
+# What the picture answers, if the text is one that tells a picture.
+def answered(text, answer):
     if len(text) > MOST_BYTES:
-        return [TOO_LONG]
+        return [BEYOND_BOUNDS]
     try:
         picture = read_picture(signs_of(text))
     except WrongText:
         return [NOT_RIGHT]
-    return [0, picture.width, picture.height, picture.shape_count]
+    return answer(picture)
+
+
+def size_of(picture):
+    return [0, picture.width, picture.height, len(picture.shapes)]
+
+
+def dots_of(picture, most):
+    dot_count = picture.width * picture.height
+    if dot_count > most:
+        return [TOO_MANY_DOTS]
+    return [dot_count] + painted_dots(picture)
+
+
+def size(text):
+    return answered(text, size_of)
+
+
+def paint(most, text):
+    if most < 0:
+        return [BEYOND_BOUNDS]
+    return answered(text, lambda picture: dots_of(picture, most))

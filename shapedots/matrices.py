@@ -27,6 +27,13 @@ def put_behind(outer, inner):
     )
 
 
+def moved(matrix, place):
+    return (
+        matrix[0] * place[0] + matrix[2] * place[1] + matrix[4],
+        matrix[1] * place[0] + matrix[3] * place[1] + matrix[5],
+    )
+
+
 def check_bounds(matrix):
     if max([abs(factor) for factor in matrix[:4]]) > LARGEST_FACTOR:
         raise WrongText()

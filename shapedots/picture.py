@@ -5,7 +5,8 @@ from shapedots.matrices import UNMOVED, transformed
 from shapedots.reader import Reader
 from shapedots.refusals import WrongText
 from shapedots.rows import number_within
-from shapedots.shapes import SHAPES, check_paint, check_shape, needed
+from shapedots.shapes import SHAPES, Shape, needed, read_figure
+from shapedots.styles import BLACK, NONZERO, Style, styled
 
 LARGEST_SIDE = 1024
 MOST_GROUPS_AROUND = 16
@@ -15,20 +16,20 @@ class Picture:
     def __init__(self, width, height):
         self.width = width
         self.height = height
-        self.shape_count = 0
+        self.shapes = []
 
 
 # An element whose end has not been read yet.
 class Holder:
-    def __init__(self, name, matrix):
+    def __init__(self, name, matrix, style):
         self.name = name
         self.matrix = matrix
+        self.style = style
 
 
 def picture_of(tag):
     if tag.name != "svg":
         raise WrongText()
-    check_paint(tag.attributes)
     width = number_within(needed(tag.attributes, "width"), 1, LARGEST_SIDE)
     height = number_within(needed(tag.attributes, "height"), 1, LARGEST_SIDE)
     return Picture(width, height)
@@ -37,11 +38,8 @@ def picture_of(tag):
 def check_child(tag, holders):
     if holders[-1].name in SHAPES:
         raise WrongText()
-    if tag.name in SHAPES:
-        check_shape(tag.name, tag.attributes)
-    elif tag.name != "g" or len(holders) - 1 > MOST_GROUPS_AROUND:
+    if tag.name not in SHAPES and (tag.name != "g" or len(holders) - 1 > MOST_GROUPS_AROUND):
         raise WrongText()
-    check_paint(tag.attributes)
 
 
 def read_child(reader, holders, picture):
@@ -49,14 +47,15 @@ def read_child(reader, holders, picture):
     tag = read_tag(reader)
     check_child(tag, holders)
     matrix = transformed(holders[-1].matrix, tag.attributes.get("transform", ""))
+    style = styled(holders[-1].style, tag.attributes)
     if tag.name in SHAPES:
-        picture.shape_count += 1
+        picture.shapes.append(Shape(read_figure(tag.name, tag.attributes), matrix, style))
     if not tag.closed:
-        holders.append(Holder(tag.name, matrix))
+        holders.append(Holder(tag.name, matrix, style))
 
 
-def read_inside(reader, picture):
-    holders = [Holder("svg", UNMOVED)]
+def read_inside(reader, picture, style):
+    holders = [Holder("svg", UNMOVED, style)]
     while len(holders) > 0:
         skip_blanks_and_notes(reader)
         if reader.skip("</"):
@@ -71,8 +70,9 @@ def read_picture(signs):
     reader.need("<")
     tag = read_tag(reader)
     picture = picture_of(tag)
+    style = styled(Style(BLACK, NONZERO), tag.attributes)
     if not tag.closed:
-        read_inside(reader, picture)
+        read_inside(reader, picture, style)
     skip_blanks_and_notes(reader)
     reader.need_end()
     return picture

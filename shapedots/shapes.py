@@ -1,12 +1,20 @@
-"""What the attributes of an element must be."""
+"""The shapes of a picture, and what their attributes tell."""
 
-from shapedots.paths import check_path
-from shapedots.reader import Reader
+from shapedots.circles import Circle, circle_spans
+from shapedots.outlines import Outline, outline_spans
+from shapedots.paths import read_path
+from shapedots.places import fine
 from shapedots.refusals import WrongText
 from shapedots.rows import LARGEST, number_within, single_number, whole_row
 
 SHAPES = ("rect", "circle", "polygon", "polyline", "path")
-DIGITS_OF_SIXTEEN = "0123456789ABCDEFabcdef"
+
+
+class Shape:
+    def __init__(self, figure, matrix, style):
+        self.figure = figure
+        self.matrix = matrix
+        self.style = style
 
 
 def needed(attributes, name):
@@ -15,47 +23,43 @@ def needed(attributes, name):
     return attributes[name]
 
 
-def check_fill(value):
-    if value == "none":
-        return
-    reader = Reader(value)
-    reader.need("#")
-    if len(reader.take_all(DIGITS_OF_SIXTEEN)) != 6:
+def place_told(attributes, x_name, y_name):
+    return (single_number(attributes.get(x_name, "0")), single_number(attributes.get(y_name, "0")))
+
+
+def length_told(attributes, name):
+    return number_within(needed(attributes, name), 0, LARGEST)
+
+
+def read_rect(attributes):
+    near = place_told(attributes, "x", "y")
+    far = (near[0] + length_told(attributes, "width"), near[1] + length_told(attributes, "height"))
+    return Outline([[fine(near), fine((far[0], near[1])), fine(far), fine((near[0], far[1]))]])
+
+
+def read_circle(attributes):
+    middle = place_told(attributes, "cx", "cy")
+    return Circle(middle[0], middle[1], length_told(attributes, "r"))
+
+
+def read_points(attributes):
+    row = whole_row(needed(attributes, "points"))
+    if len(row) % 2 != 0:
         raise WrongText()
-    reader.need_end()
+    return Outline([[fine((row[k], row[k + 1])) for k in range(0, len(row), 2)]])
 
 
-def check_paint(attributes):
-    if "fill" in attributes:
-        check_fill(attributes["fill"])
-    if "fill-rule" in attributes and attributes["fill-rule"] not in ("nonzero", "evenodd"):
-        raise WrongText()
-
-
-def check_rect(attributes):
-    single_number(attributes.get("x", "0"))
-    single_number(attributes.get("y", "0"))
-    number_within(needed(attributes, "width"), 0, LARGEST)
-    number_within(needed(attributes, "height"), 0, LARGEST)
-
-
-def check_circle(attributes):
-    single_number(attributes.get("cx", "0"))
-    single_number(attributes.get("cy", "0"))
-    number_within(needed(attributes, "r"), 0, LARGEST)
-
-
-def check_points(attributes):
-    if len(whole_row(needed(attributes, "points"))) % 2 != 0:
-        raise WrongText()
-
-
-def check_shape(name, attributes):
+def read_figure(name, attributes):
     if name == "rect":
-        check_rect(attributes)
-    elif name == "circle":
-        check_circle(attributes)
-    elif name == "path":
-        check_path(needed(attributes, "d"))
-    else:
-        check_points(attributes)
+        return read_rect(attributes)
+    if name == "circle":
+        return read_circle(attributes)
+    if name == "path":
+        return Outline(read_path(needed(attributes, "d")))
+    return read_points(attributes)
+
+
+def covered_spans(shape, window):
+    if isinstance(shape.figure, Circle):
+        return circle_spans(shape.figure, shape.matrix, window)
+    return outline_spans(shape.figure, shape.matrix, shape.style.rule, window)

@@ -2,29 +2,8 @@
 
 import unittest
 
-from pictures import WRONG, SizeTest, bytes_of, svg
+from pictures import MANY, WRONG, SizeTest, bytes_of, of_length, svg
 from shapedots.drawing import size
-
-MANY = """
-<!-- a picture of everything -->
-<svg xmlns="http://www.w3.org/2000/svg" width="640" height='480' fill="#00fF7a" fill-rule="evenodd">
-  <rect x="1" y="-2" width="30" height="40"/>
-  <g fill="none" transform="translate(3) rotate(90)"><!-- a group -->
-    <circle cx="5" cy="6" r="7"></circle>
-    <g transform=" scale(2, -1)\tmatrix(1 0 0 1 -5-6)\r\n">
-      <polygon points="0,0 10,0 10,10" fill="#123456"> <!-- none --> </polygon>
-      <polyline points="" fill-rule='nonzero' />
-    </g>
-  </g>
-  <path d="M 0 0 l 10 0 H 5 v 5 Q 1 2 3 4 c 1 2 3 4 5 6 z" fill="none"/>
-</svg>
-<!-- behind --> <!-- and again -->
-"""
-
-
-def of_length(length):
-    text = svg('<rect width="1" height="1"/>')
-    return text + " " * (length - len(text))
 
 
 class Answers(SizeTest):
