@@ -3,13 +3,17 @@
 from shapedots.canvas import painted_dots
 from shapedots.picture import read_picture
 from shapedots.refusals import WrongText
+from shapedots.shapes import covers_dot
 from shapedots.signs import signs_of
+from shapedots.styles import NO_FILL
 
 MOST_BYTES = 65536
 
 BEYOND_BOUNDS = -1
 NOT_RIGHT = -2
 TOO_MANY_DOTS = -3
+NONE_PAINTS = -4
+NOT_THERE = -5
 
 
 # What the picture answers, if the text is one that tells a picture.
@@ -34,6 +38,16 @@ def dots_of(picture, most):
     return [dot_count] + painted_dots(picture)
 
 
+def shape_at(picture, x, y):
+    if not (0 <= x < picture.width and 0 <= y < picture.height):
+        return [NOT_THERE]
+    for k in range(len(picture.shapes) - 1, -1, -1):
+        shape = picture.shapes[k]
+        if shape.style.fill != NO_FILL and covers_dot(shape, x, y, picture.width):
+            return [k]
+    return [NONE_PAINTS]
+
+
 def size(text):
     return answered(text, size_of)
 
@@ -42,3 +56,7 @@ def paint(most, text):
     if most < 0:
         return [BEYOND_BOUNDS]
     return answered(text, lambda picture: dots_of(picture, most))
+
+
+def at(x, y, text):
+    return answered(text, lambda picture: shape_at(picture, x, y))

@@ -6,6 +6,7 @@ from shapedots.paths import read_path
 from shapedots.places import fine
 from shapedots.refusals import WrongText
 from shapedots.rows import LARGEST, number_within, single_number, whole_row
+from shapedots.windows import Window
 
 SHAPES = ("rect", "circle", "polygon", "polyline", "path")
 
@@ -63,3 +64,9 @@ def covered_spans(shape, window):
     if isinstance(shape.figure, Circle):
         return circle_spans(shape.figure, shape.matrix, window)
     return outline_spans(shape.figure, shape.matrix, shape.style.rule, window)
+
+
+def covers_dot(shape, x, y, width):
+    window = Window(width, y, y + 1)
+    dot = y * window.row_length + x
+    return any([span[0] <= dot < span[1] for span in covered_spans(shape, window)])

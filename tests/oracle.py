@@ -128,7 +128,7 @@ def in_circle(own, steps, x, y):
 
 class Shape:
     def __init__(self, element, steps, fill, rule):
-        self.fill = fill
+        self.colour = None if fill == "none" else int(fill[1:], 16)
         self.rule = rule
         self.steps = steps
         self.circle = element.own if element.name == "circle" else None
@@ -162,12 +162,12 @@ class Answers:
         self.covered = [{dot for dot in self.dots if shape.covers(*dot)} for shape in self.shapes]
 
     def at(self, x, y):
-        painting = [k for k, shape in enumerate(self.shapes) if shape.fill != "none" and (x, y) in self.covered[k]]
+        painting = [k for k, shape in enumerate(self.shapes) if shape.colour is not None and (x, y) in self.covered[k]]
         return painting[-1] if painting else -4
 
     def paint(self):
         last = [self.at(x, y) for x, y in self.dots]
-        return [int(self.shapes[k].fill[1:], 16) if k >= 0 else 0xFFFFFF for k in last]
+        return [self.shapes[k].colour if k >= 0 else 0xFFFFFF for k in last]
 
 
 class Chance:
