@@ -3,9 +3,10 @@
 from shapedots.canvas import painted_dots
 from shapedots.picture import read_picture
 from shapedots.refusals import WrongText
-from shapedots.shapes import covers_dot
+from shapedots.shapes import covered_spans, covers_dot
 from shapedots.signs import signs_of
 from shapedots.styles import NO_FILL
+from shapedots.windows import Window
 
 MOST_BYTES = 65536
 
@@ -48,6 +49,13 @@ def shape_at(picture, x, y):
     return [NONE_PAINTS]
 
 
+def covered_by(picture, k):
+    if not 0 <= k < len(picture.shapes):
+        return [NOT_THERE]
+    window = Window(picture.width, 0, picture.height)
+    return [sum([span[1] - span[0] for span in covered_spans(picture.shapes[k], window)])]
+
+
 def size(text):
     return answered(text, size_of)
 
@@ -60,3 +68,7 @@ def paint(most, text):
 
 def at(x, y, text):
     return answered(text, lambda picture: shape_at(picture, x, y))
+
+
+def covers(k, text):
+    return answered(text, lambda picture: covered_by(picture, k))

@@ -38,8 +38,9 @@ class Steps(DrawnTest):
         self.drawn_as(hook("matrix(1 0 0 1 1 1)"), "....", ".###", ".#..")
         self.drawn_as(hook("matrix(2 0 0 1 1 0)"), ".######", ".##....")
         self.drawn_as(hook("matrix(0 1 1 0 0 0)"), "##.", "#..", "#..")
-        self.drawn_as('<rect width="3" height="3" transform="matrix(1 0 1 1 0 0)"/>', "###...", ".###..", "..###.", "......")
-        self.drawn_as('<rect width="3" height="2" transform="matrix(1 1 0 1 0 0)"/>', "...", "#..", "##.", ".##", "..#")
+        box = '<rect width="3" height="{}" transform="matrix({})"/>'
+        self.drawn_as(box.format(3, "1 0 1 1 0 0"), "###...", ".###..", "..###.", "......")
+        self.drawn_as(box.format(2, "1 1 0 1 0 0"), "...", "#..", "##.", ".##", "..#")
 
     def test_rotate(self):
         for angle in (0, 90, 180, 270):
