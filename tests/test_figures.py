@@ -3,6 +3,7 @@
 import unittest
 
 from pictures import DrawnTest, bytes_of, drawn, svg
+from shapedots.circles import whole_root
 from shapedots.drawing import paint
 
 
@@ -83,6 +84,17 @@ class Circles(DrawnTest):
     def test_the_rule_does_not_matter(self):
         circle = '<circle cx="5" cy="4" r="3"{}/>'
         self.alike(circle.format(""), circle.format(' fill-rule="evenodd"'))
+
+
+class Roots(unittest.TestCase):
+    def test_small_numbers(self):
+        for number in range(2000):
+            root = whole_root(number)
+            self.assertTrue(root ** 2 <= number < (root + 1) ** 2, number)
+
+    def test_just_below_and_at_a_square(self):
+        for root in [10 ** k + j for k in range(2, 40) for j in (-1, 0, 1, 7)] + [2 ** k for k in range(1, 130)]:
+            self.assertEqual([whole_root(root ** 2 + j) for j in (-1, 0, 1)], [root - 1, root, root])
 
 
 class Points(DrawnTest):

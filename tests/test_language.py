@@ -135,6 +135,36 @@ class Forms(unittest.TestCase):
             if isinstance(node.func, ast.Attribute):
                 self.assertIn(node.func.attr, own | METHODS_OF_PYTHON, (name, node.lineno))
 
+    def test_walked_at_once(self):
+        walked = {"zip", "enumerate", "reversed", "range"}
+        takers = {"list", "tuple", "dict", "sorted", "sum", "any", "all", "enumerate", "zip"}
+        for name, tree in trees():
+            allowed = [node.iter for node in ast.walk(tree) if isinstance(node, (ast.For, ast.comprehension))]
+            for node in ast.walk(tree):
+                if isinstance(node, ast.Call) and isinstance(node.func, ast.Name) and node.func.id in takers:
+                    allowed.extend(node.args[:1])
+            for node in ast.walk(tree):
+                if isinstance(node, ast.Call) and isinstance(node.func, ast.Name) and node.func.id in walked:
+                    self.assertTrue(any(node is other for other in allowed), (name, node.lineno))
+
+    def test_methods_and_values_of_objects(self):
+        inside = [inner for _, node in nodes(ast.ClassDef) for inner in node.body]
+        methods = {inner.name for inner in inside if isinstance(inner, ast.FunctionDef)}
+        values = {node.attr for _, node in nodes(ast.Attribute) if isinstance(node.ctx, ast.Store)}
+        of_python = {name for kind in (str, int, list, dict, set, bytes) for name in dir(kind)}
+        self.assertEqual(methods & values, set())
+        self.assertEqual((values | methods - {"__init__"}) & of_python, set())
+
+    def test_no_two_files_draw_from_one_another(self):
+        drawn = {
+            name[:-3]: {node.module.split(".")[1] for node in ast.walk(tree) if isinstance(node, ast.ImportFrom)}
+            for name, tree in trees()
+        }
+        while drawn:
+            ready = [name for name in drawn if not drawn[name] & set(drawn)]
+            self.assertTrue(ready, drawn)
+            drawn = {name: drawn[name] for name in drawn if name not in ready}
+
     def test_every_name_is_known(self):
         for name, tree in trees():
             stored = {node.id for node in ast.walk(tree) if isinstance(node, ast.Name) and isinstance(node.ctx, ast.Store)}
